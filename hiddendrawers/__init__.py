@@ -1,0 +1,1 @@
+"""A drawer that nobody can show."""
